@@ -10,15 +10,15 @@ import (
 	"loop.example/g01013/impl"
 )
 
-// layerField is a number of a layer, with the limits that chapter 3 gives.
-type layerField struct {
+// numberField is a number of a struct, with the limits that its chapter gives.
+type numberField[T any] struct {
 	name            string
-	of              func(*impl.Layer) *int64
+	of              func(*T) *int64
 	least, greatest int64
 }
 
-func layerFields() []layerField {
-	return []layerField{
+func layerFields() []numberField[impl.Layer] {
+	return []numberField[impl.Layer]{
 		{"Form", func(x *impl.Layer) *int64 { return &x.Form }, 1, 6},
 		{"Ice", func(x *impl.Layer) *int64 { return &x.Ice }, 1, 1000000},
 		{"Water", func(x *impl.Layer) *int64 { return &x.Water }, 0, 1000000},
@@ -46,8 +46,8 @@ func thinLayer() impl.Layer {
 	return impl.Layer{Form: impl.FoHoar, Ice: 1, Water: 0, Density: 900, Degrees: -1, Hardness: 1, Age: 1}
 }
 
-// withField returns a layer in which one number is another one.
-func withField(x impl.Layer, field layerField, n int64) impl.Layer {
+// withField returns a struct in which one number is another one.
+func withField[T any](x T, field numberField[T], n int64) T {
 	*field.of(&x) = n
 	return x
 }

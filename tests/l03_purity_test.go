@@ -103,11 +103,11 @@ func TestReadProfileReturnsForOddTexts(t *testing.T) {
 	}
 }
 
-// overwrite changes all layers of a list, those of its unused capacity included.
-func overwrite(list []impl.Layer) {
+// overwrite changes all elements of a list, those of its unused capacity included.
+func overwrite[T any](list []T, with T) {
 	whole := list[:cap(list)]
 	for i := range whole {
-		whole[i] = impl.Layer{Form: -99}
+		whole[i] = with
 	}
 }
 
@@ -120,12 +120,12 @@ func TestNewProfilesAreNewMemory(t *testing.T) {
 			again, _ := changedProfiles(whole[:len(list)], k, 10)
 			wanted, _ := changedProfiles(slices.Clone(list), k, 10)
 			for _, other := range lists {
-				overwrite(other)
+				overwrite(other, impl.Layer{Form: -99})
 			}
 			if !slices.Equal(whole, before) {
 				t.Errorf("a result shares memory with a profile of %d layers", len(list))
 			}
-			overwrite(whole)
+			overwrite(whole, impl.Layer{Form: -99})
 			if !reflect.DeepEqual(again, wanted) {
 				t.Errorf("two results of a profile of %d layers share memory, or one does with the profile", len(list))
 			}
@@ -138,7 +138,7 @@ func TestReadProfilesAreNewMemory(t *testing.T) {
 		text := profileAsTold(list)
 		first, _ := impl.ReadProfile(text)
 		second, _ := impl.ReadProfile(text)
-		overwrite(first)
+		overwrite(first, impl.Layer{Form: -99})
 		if !slices.Equal(second, list) {
 			t.Errorf("two results of ReadProfile(%q) share memory", text)
 		}
