@@ -210,6 +210,17 @@ func within[T cmp.Ordered](x, least, greatest T) bool {
 	return least <= x && x <= greatest
 }
 
+// statedCode returns the code of a call whose arguments are valid or not, and whose numbers are as stated or not.
+func statedCode(isValid, isStated bool) int64 {
+	if !isValid {
+		return ErrInvalid
+	}
+	if !isStated {
+		return ErrRange
+	}
+	return OK
+}
+
 func isValue(n int64) bool { return within(n, -MaxValue, MaxValue) }
 
 func isLetter(b byte) bool { return within(b, 'a', 'z') }
