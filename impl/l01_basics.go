@@ -221,6 +221,14 @@ func statedCode(isValid, isStated bool) int64 {
 	return OK
 }
 
+// orderedCode is statedCode of a call that also has lists, which are ordered as they must be or not.
+func orderedCode(isValid, isStated, isOrdered bool) int64 {
+	if code := statedCode(isValid, isStated); code != OK || isOrdered {
+		return code
+	}
+	return ErrOrder
+}
+
 func isValue(n int64) bool { return within(n, -MaxValue, MaxValue) }
 
 func isLetter(b byte) bool { return within(b, 'a', 'z') }
